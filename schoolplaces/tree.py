@@ -5,12 +5,30 @@ A village's up always has a lesser number than itself: much here leans on that.
 
 
 class Village:
-    """One village. It stays as it was made: a change puts another one in its place."""
+    """One village. It stays as it was made: a change puts another one in its place.
+
+    Village 0 has no up and no road, and is kept as its own up, with a road of length 0.
+    """
 
     def __init__(self, up, road, children):
         self.up = up
         self.road = road
         self.children = children
+
+
+def replaced(villages, v, village):
+    """A copy of the villages, with this one in the place of v."""
+    return villages[:v] + [village] + villages[v + 1:]
+
+
+def with_children(villages, v, many):
+    """A copy of the villages, with so many children in v."""
+    return replaced(villages, v, Village(villages[v].up, villages[v].road, many))
+
+
+def with_road(villages, v, far):
+    """A copy of the villages, with v's road so long."""
+    return replaced(villages, v, Village(villages[v].up, far, villages[v].children))
 
 
 def line(villages, v):
@@ -40,10 +58,20 @@ def distances(villages, v):
     return [far[x] for x in range(len(villages))]
 
 
+def farthest(villages, v):
+    """The village that is farthest from v; of like ones the least."""
+    far = distances(villages, v)
+    return far.index(max(far))
+
+
+def ways_over(villages, far):
+    """All ways, if the children of each village go as far as is told of it."""
+    return sum([villages[x].children * far[x] for x in range(len(villages))])
+
+
 def all_ways(villages, v):
     """All ways to v: of each village its children times how far it is from v, together."""
-    far = distances(villages, v)
-    return sum([villages[x].children * far[x] for x in range(len(villages))])
+    return ways_over(villages, distances(villages, v))
 
 
 def best_places(villages):
@@ -51,6 +79,26 @@ def best_places(villages):
     ways = [all_ways(villages, v) for v in range(len(villages))]
     least = min(ways)
     return [v for v in range(len(villages)) if ways[v] == least]
+
+
+def nearer_ways(villages, far, other):
+    """All ways, each child going to the nearer of two villages; how far each one is from these is handed in."""
+    return ways_over(villages, [min(far[x], other[x]) for x in range(len(villages))])
+
+
+def ways_to_either(villages, v, w):
+    """All ways, each child going to the nearer of v and w."""
+    return nearer_ways(villages, distances(villages, v), distances(villages, w))
+
+
+def best_two(villages):
+    """The two villages, the lesser first, for which all ways to the nearer are least; None if there's only one."""
+    far = [distances(villages, v) for v in range(len(villages))]
+    pairs = []
+    for v in range(len(villages)):
+        pairs.extend([(v, w) for w in range(v + 1, len(villages))])
+    # Of like ones min takes the first, and the pairs stand in their order.
+    return min(pairs, key=lambda pair: nearer_ways(villages, far[pair[0]], far[pair[1]]), default=None)
 
 
 def are_beside(villages, v, w):
@@ -69,6 +117,11 @@ def branch(villages, v, w):
     if villages[w].up == v:
         return [x for x in range(len(villages)) if w in line(villages, x)]
     return [x for x in range(len(villages)) if v not in line(villages, x)]
+
+
+def all_roads(villages):
+    """How long all roads are, together."""
+    return sum([village.road for village in villages])
 
 
 def children_in(villages, places):
@@ -92,12 +145,17 @@ def heaviest(villages, v):
     return max(beside(villages, v), key=lambda w: branch_children(villages, v, w), default=None)
 
 
+def over_half(villages, v):
+    """By how many twice the children of v's heaviest branch are above all children; 0 if they aren't."""
+    w = heaviest(villages, v)
+    if w is None:
+        return 0
+    return max(0, 2 * branch_children(villages, v, w) - all_children(villages))
+
+
 def step_to_half(villages, v):
     """The village one goes to from v toward the half; None if one stays."""
-    w = heaviest(villages, v)
-    if w is None or 2 * branch_children(villages, v, w) <= all_children(villages):
-        return None
-    return w
+    return heaviest(villages, v) if over_half(villages, v) > 0 else None
 
 
 def way_to_half(villages, v):

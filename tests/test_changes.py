@@ -2,15 +2,8 @@
 
 import unittest
 
-from tests.helper import (LARGEST, ask, ask_last, branch, chain, drop, every, far, heavy, look, many, mixed, padded,
-                          road, star, start, survey, toward, village, ways)
-
-
-class RefusalCase(unittest.TestCase):
-    def assert_refused(self, before, call, number):
-        """The refusal is answered, stands alone, and leaves all as it was."""
-        self.assertEqual(ask_last(before + [call]), [number])
-        self.assertEqual(look(before + [call]), look(before))
+from tests.helper import (LARGEST, RefusalCase, ask, ask_last, branch, chain, drop, every, far, heavy, many, mixed,
+                          padded, road, star, start, survey, toward, valley_after, village, ways)
 
 
 class StartTest(RefusalCase):
@@ -25,8 +18,8 @@ class StartTest(RefusalCase):
 
     def test_started_again_all_is_new(self):
         self.assertEqual(ask_last(mixed() + [start(9)]), [0])
-        self.assertEqual(look(mixed() + [start(9)]), look([start(9)]))
-        self.assertEqual(look(mixed() + [start(3)] + mixed()[1:]), look(mixed()))
+        self.assertEqual(valley_after(mixed() + [start(9)]), valley_after([start(9)]))
+        self.assertEqual(valley_after(mixed() + [start(3)] + mixed()[1:]), valley_after(mixed()))
 
     def test_started_again_and_refused_all_stays(self):
         self.assert_refused(mixed(), start(1001), -22)
@@ -90,8 +83,8 @@ class ManyTest(RefusalCase):
 
     def test_only_the_children_of_that_one_change(self):
         after = mixed() + [many(4, 9)]
-        self.assertEqual(look(after), look(mixed()[:4] + [village(1, 1, 9)] + mixed()[5:]))
-        self.assertEqual(look(mixed() + [many(0, 10)]), look([start(10)] + mixed()[1:]))
+        self.assertEqual(valley_after(after), valley_after(mixed()[:4] + [village(1, 1, 9)] + mixed()[5:]))
+        self.assertEqual(valley_after(mixed() + [many(0, 10)]), valley_after([start(10)] + mixed()[1:]))
 
     def test_edges_of_n(self):
         for n in (0, 1, 1000):
@@ -112,7 +105,7 @@ class RoadTest(RefusalCase):
 
     def test_only_the_road_of_that_one_changes(self):
         after = mixed() + [road(1, 20)]
-        self.assertEqual(look(after), look(mixed()[:1] + [village(0, 20, 5)] + mixed()[2:]))
+        self.assertEqual(valley_after(after), valley_after(mixed()[:1] + [village(0, 20, 5)] + mixed()[2:]))
 
     def test_edges_of_n(self):
         for n in (1, 2, 1000):
@@ -139,8 +132,8 @@ class DropTest(RefusalCase):
         self.assertEqual(ask(mixed() + [drop()] * 6)[6:], [[5], [4], [3], [2], [1], [-33]])
 
     def test_the_last_one_goes(self):
-        self.assertEqual(look(mixed() + [drop()]), look(mixed()[:-1]))
-        self.assertEqual(look(mixed() + [drop(), drop()]), look(mixed()[:-2]))
+        self.assertEqual(valley_after(mixed() + [drop()]), valley_after(mixed()[:-1]))
+        self.assertEqual(valley_after(mixed() + [drop(), drop()]), valley_after(mixed()[:-2]))
         self.assertEqual(ask_last(mixed() + [drop(), toward(5)]), [-2])
 
     def test_its_place_can_be_taken_anew(self):
@@ -158,7 +151,7 @@ class SurveyTest(unittest.TestCase):
         others = [mixed()[:-1], mixed() + [many(5, 5)], mixed() + [road(5, 5)], mixed() + [many(0, 2)],
                   mixed()[:-1] + [village(1, 6, 4)], mixed() + [village(0, 1, 0)]]
         for other in others:
-            self.assertNotEqual(look(other), look(mixed()))
+            self.assertNotEqual(valley_after(other), valley_after(mixed()))
 
     def test_fits_in_a_line(self):
         self.assertLess(len(survey()) + 20, 1000)

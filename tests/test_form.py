@@ -85,6 +85,33 @@ class FormTest(unittest.TestCase):
                 self.assertIn(word, OWN_NAMES, (name, node.lineno))
                 self.assertIsInstance(getattr(node, "ctx", None), ast.Load, (name, node.lineno))
 
+    def test_no_local_is_called_like_an_import_or_a_class(self):
+        for name, tree in trees():
+            taken = {node.name for node in ast.walk(tree) if isinstance(node, (ast.alias, ast.ClassDef))}
+            for node in ast.walk(tree):
+                if isinstance(node, ast.arg):
+                    self.assertNotIn(node.arg, taken, (name, node.lineno))
+                if isinstance(node, ast.Name) and isinstance(node.ctx, ast.Store):
+                    self.assertNotIn(node.id, taken, (name, node.lineno))
+
+    def test_each_name_once_at_the_top(self):
+        for name, tree in trees():
+            bound = []
+            for node in tree.body:
+                if isinstance(node, ast.Assign):
+                    bound.append(node.targets[0].id)
+                if isinstance(node, (ast.FunctionDef, ast.ClassDef)):
+                    bound.append(node.name)
+                if isinstance(node, ast.ImportFrom):
+                    bound.extend(alias.name for alias in node.names)
+            self.assertEqual(sorted(bound), sorted(set(bound)), name)
+
+    def test_no_name_is_a_method_and_a_value(self):
+        methods = {part.name for name, node in nodes(ast.ClassDef) for part in node.body
+                   if isinstance(part, ast.FunctionDef)}
+        values = {node.attr for name, node in nodes(ast.Attribute) if isinstance(node.ctx, ast.Store)}
+        self.assertEqual(methods & values, set())
+
     def test_is_beside_none_true_false_alone(self):
         for name, node in nodes(ast.Compare):
             for sign, right in zip(node.ops, node.comparators):

@@ -4,17 +4,29 @@ import itertools
 import random
 import unittest
 
-from tests.helper import (LARGEST, ask, best, branch, chain, drop, every, far, gain, heavy, many, mixed, padded, road,
-                          star, start, toward, village, ways)
+from tests.helper import (LARGEST, again, ask, back, beside, best, both, branch, chain, drop, every, far, farthest,
+                          gain, heavy, large_trees, line, look, many, mixed, nearer, padded, road, small_trees, star,
+                          start, state, sums, till, toward, two, village, ways, without)
+
+NAMES = ("start", "village", "many", "road", "drop", "far", "ways", "best", "every", "heavy", "branch", "toward",
+         "gain", "two", "both", "farthest", "nearer", "line", "beside", "till", "without", "look", "sums", "back",
+         "again", "state")
 
 
 class Model:
-    """Villages by number; each road by both of its ends."""
+    """Villages by number; each road by both of its ends.
+
+    Taking back is reckoned from the changes themselves: all that are left are made once more from the start on.
+    """
 
     def __init__(self):
         self.children = {}
         self.roads = {}
         self.ups = {}
+        self.begun = 0
+        self.done = []
+        self.undone = []
+        self.oldest = 0
 
     def near(self, v):
         return sorted(w for x, w in self.roads if x == v)
@@ -55,7 +67,14 @@ class Model:
         if n > 1000:
             return [-22]
         self.children, self.roads, self.ups = {0: n}, {}, {}
+        self.begun, self.done, self.undone, self.oldest = n, [], [], 0
         return [0]
+
+    def replay(self, changes):
+        self.children, self.roads, self.ups = {0: self.begun}, {}, {}
+        for call in changes:
+            getattr(self, NAMES[call[0]])(*call[1:])
+        self.done = changes
 
     def village(self, up, length, n):
         if self.missing(up):
@@ -137,31 +156,109 @@ class Model:
     def gain(self, v, w):
         return [-2] if self.missing(v, w) else [self.all_ways(v) - self.all_ways(w)]
 
+    def lengths(self, v):
+        return {w: self.length(v, w) for w in self.children}
+
+    def shared_ways(self, first, second):
+        return sum(n * min(first[x], second[x]) for x, n in self.children.items())
+
+    def two(self):
+        if len(self.children) == 1:
+            return [-6]
+        table = {v: self.lengths(v) for v in self.children}
+        return list(min((self.shared_ways(table[v], table[w]), v, w) for v in table for w in table if v < w))
+
+    def both(self, v, w):
+        return [-2] if self.missing(v, w) else [self.shared_ways(self.lengths(v), self.lengths(w))]
+
+    def farthest(self, v):
+        if self.missing(v):
+            return [-2]
+        length, w = min((-length, w) for w, length in self.lengths(v).items())
+        return [w, -length]
+
+    def nearer(self, v, w, x):
+        return [-2] if self.missing(v, w, x) else [int(self.length(x, w) < self.length(x, v))]
+
+    def line(self, v):
+        if self.missing(v):
+            return [-2]
+        return [len(self.way(v, 0))] + padded([x + 1 for x in self.way(v, 0)])
+
+    def beside(self, v):
+        return [-2] if self.missing(v) else [len(self.near(v)), sum(2 ** w for w in self.near(v))]
+
+    def till(self, v):
+        """A child more in v makes no way to v longer, and the ways to each other one by how far that is."""
+        if self.missing(v):
+            return [-2]
+        others = [w for w in self.children if w != v]
+        behind = {w: self.all_ways(v) - self.all_ways(w) for w in others}
+        return [max([0] + [-(-behind[w] // self.length(v, w)) for w in others])]
+
+    def without(self, v):
+        if self.missing(v):
+            return [-2]
+        had, self.children[v] = self.children[v], 0
+        told = self.best()
+        self.children[v] = had
+        return told[:2]
+
+    def look(self, v):
+        if self.missing(v):
+            return [-2]
+        return [self.children[v], self.ups.get(v, 0), self.roads[v, self.ups[v]] if v else 0]
+
+    def sums(self):
+        return [sum(self.children.values()), sum(self.roads.values()) // 2]
+
+    def back(self):
+        if len(self.done) == self.oldest:
+            return [-2]
+        self.undone.append(self.done[-1])
+        self.replay(self.done[:-1])
+        return [len(self.done) - self.oldest]
+
+    def again(self):
+        if not self.undone:
+            return [-2]
+        self.replay(self.done + [self.undone.pop()])
+        return [len(self.undone)]
+
+    def state(self):
+        return [len(self.children), len(self.done) - self.oldest, len(self.undone)]
+
     def answer(self, call):
-        names = ("start", "village", "many", "road", "drop", "far", "ways", "best", "every", "heavy", "branch",
-                 "toward", "gain")
-        return getattr(self, names[call[0]])(*call[1:])
+        told = getattr(self, NAMES[call[0]])(*call[1:])
+        if NAMES[call[0]] in ("village", "many", "road", "drop") and told[0] >= 0:
+            self.done.append(call)
+            self.undone = []
+            self.oldest = max(self.oldest, len(self.done) - 20)
+        return told
 
 
 def questions(places):
     """Every question of each of these places, and of each two of them."""
-    asked = [best(), every()]
+    asked = [best(), every(), two(), sums(), state()]
     for v in places:
-        asked += [ways(v), heavy(v), toward(v)]
+        asked += [ways(v), heavy(v), toward(v), farthest(v), line(v), beside(v), till(v), without(v), look(v)]
     for v, w in itertools.product(places, repeat=2):
-        asked += [far(v, w), branch(v, w), gain(v, w)]
+        asked += [far(v, w), branch(v, w), gain(v, w), both(v, w), nearer(v, w, places[0]), nearer(v, w, places[-1])]
     return asked
 
 
 def any_call(chance):
     """A call by chance, near the edges often."""
-    v = chance.choice(list(range(13)) + [LARGEST])
-    w = chance.choice(list(range(13)) + [LARGEST])
+    v, w, x = [chance.choice(list(range(13)) + [LARGEST]) for place in range(3)]
     n = chance.choice([0, 1, 2, 3, 5, 8, chance.randrange(1001), 1000, 1001, LARGEST])
     length = chance.choice([0, 1, 2, 3, 7, chance.randrange(1001), 1000, 1001])
-    questioned = [far(v, w), ways(v), best(), every(), heavy(v), branch(v, w), toward(v), gain(v, w)]
-    changed = [village(v % 6, length, n), village(v, length, n), village(0, 1, 1), many(v, n), road(v, length), drop()]
-    return chance.choice(questioned + changed + changed + ([start(n)] if chance.randrange(20) == 0 else []))
+    questioned = [far(v, w), ways(v), best(), every(), heavy(v), branch(v, w), toward(v), gain(v, w), two(), both(v, w),
+                  farthest(v), nearer(v, w, x), line(v), beside(v), till(v), without(v), look(v), sums(), state()]
+    changed = [village(v % 6, length, n), village(v, length, n), village(0, 1, 1), many(v, n), many(v % 6, n),
+               road(v, length), drop()]
+    if chance.randrange(400) == 0:
+        return start(n)
+    return chance.choice(chance.choice([questioned, changed, changed, [back(), back(), again()]]))
 
 
 class ModelTest(unittest.TestCase):
@@ -170,29 +267,34 @@ class ModelTest(unittest.TestCase):
         self.assertEqual(ask(calls), [model.answer(call) for call in calls])
 
     def test_every_small_tree(self):
-        for size in range(1, 5):
-            for ups in itertools.product(*[range(v) for v in range(1, size)]):
-                for children in itertools.product((0, 1, 2), repeat=size):
-                    roads = [village(up, v + 2, children[v + 1]) for v, up in enumerate(ups)]
-                    self.assert_alike([start(children[0])] + roads + questions(range(size + 1)))
+        for before in small_trees(4, (0, 1, 2)):
+            self.assert_alike(before + questions(range(len(before) + 1)))
 
     def test_shapes(self):
         for before in ([start(7)], mixed(), chain([1] * 12), star([1] * 12, 4), chain([3, 0, 0, 3], 5),
                        chain([1000] * 12, 1000), star([0] * 12)):
-            self.assert_alike(before + questions(range(13)))
+            asked = questions(range(13))
+            self.assert_alike(before + asked[:900])
+            self.assert_alike(before + asked[900:])
 
     def test_calls_by_chance(self):
         chance = random.Random(12)
-        for line in range(60):
-            calls = [start(chance.randrange(1001))] + [any_call(chance) for call in range(150)]
+        for turn in range(60):
+            calls = [start(chance.randrange(1001))] + [any_call(chance) for call in range(200)]
+            self.assert_alike(calls)
+
+    def test_changes_by_chance(self):
+        """Runs of back and again among the changes, so that the twenty are come by from both sides."""
+        chance = random.Random(56)
+        for turn in range(40):
+            calls = [start(5)]
+            while len(calls) < 200:
+                run = chance.choice([[back()], [again()], [many(0, len(calls))], [village(0, 1, 1)], [drop()]])
+                calls += run * chance.randrange(1, 26) + [state(), look(0), sums()]
             self.assert_alike(calls)
 
     def test_large_trees_by_chance(self):
-        chance = random.Random(34)
-        for line in range(20):
-            before = [start(chance.randrange(10))]
-            for v in range(1, 12):
-                before.append(village(chance.randrange(v), chance.randrange(1, 1001), chance.randrange(10)))
+        for before in large_trees(34, 20):
             self.assert_alike(before + questions(range(12)))
 
 

@@ -2,15 +2,8 @@
 
 import unittest
 
-from tests.helper import (LARGEST, ask, ask_last, best, branch, chain, drop, every, far, heavy, many, mixed, padded,
-                          road, star, start, village, ways)
-
-
-class QuestionCase(unittest.TestCase):
-    def assert_answers(self, before, asked):
-        """asked: pairs of a call and what is answered to it, all on the valley that is made before."""
-        told = ask(before + [call for call, expected in asked])[len(before):]
-        self.assertEqual(told, [expected for call, expected in asked])
+from tests.helper import (LARGEST, QuestionCase, ask, ask_last, best, branch, chain, drop, every, far, heavy, many,
+                          mixed, padded, road, star, start, village, ways)
 
 
 class FarTest(QuestionCase):
